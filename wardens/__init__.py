@@ -1,0 +1,1 @@
+"""Wardens: monitors for machines that are seen only through sensors."""
