@@ -51,6 +51,27 @@ INTERFACE = {
     "printing": "print_expression print_source",
     "names": "problems compile_source",
     "terms": "value_of is_true",
+    "moves": "count_next next_values leads_to",
+    "unfolding": "count_first first_values unfold is_run shortest_to dead_ends",
+    "readings": "can_show count_readings readings_at possible_readings simulate readings_of",
+    "facts": "label",
+    "memory": "facts_in weight first_memory next_memory meets",
+    "tracking": "track evaluate shortest_run",
+    "judging": "set_after verdict_of judge",
+    "minimal": "reduce",
+}
+ARGUMENTS = {
+    "count_next": "plant values most", "next_values": "plant values most", "leads_to": "plant values later",
+    "count_first": "plant", "first_values": "plant", "unfold": "plant most", "is_run": "plant run",
+    "shortest_to": "machine wanted", "dead_ends": "machine",
+    "can_show": "plant values reading", "count_readings": "plant values most", "readings_at": "plant values",
+    "possible_readings": "plant machine most", "simulate": "plant choices most",
+    "readings_of": "plant run choices most", "label": "machine fact",
+    "facts_in": "requirement", "weight": "requirement", "first_memory": "requirement holds",
+    "next_memory": "requirement memory holds", "meets": "requirement memory",
+    "track": "machine requirement most", "evaluate": "plant machine requirement run",
+    "shortest_run": "tracked wanted", "set_after": "plant tracked members reading",
+    "verdict_of": "tracked members", "judge": "plant tracked row", "reduce": "monitor",
 }
 
 
@@ -244,6 +265,13 @@ class TestForm(unittest.TestCase):
         for path, tree in each_tree():
             found = {node.name for node in tree.body if isinstance(node, (ast.FunctionDef, ast.ClassDef))}
             self.assertLessEqual(set(INTERFACE.get(path.stem, "").split()), found)
+
+    def test_arguments_of_the_interface(self):
+        for path, tree in each_tree():
+            listed = INTERFACE.get(path.stem, "").split()
+            for node in tree.body:
+                if isinstance(node, ast.FunctionDef) and node.name in listed and node.name in ARGUMENTS:
+                    self.assertEqual([argument.arg for argument in node.args.args], ARGUMENTS[node.name].split())
 
 
 if __name__ == "__main__":
