@@ -1,0 +1,99 @@
+"""Points [33], [36], [37], [40] and [41], word for word and without regard to time, for tests to compare with.
+
+A history of a requirement is a list with, for each tick of a run, the list of the truth values of its facts.
+"""
+
+import itertools
+
+from wardens.facts import label
+from wardens.memory import facts_in
+from wardens.moves import next_values
+from wardens.readings import can_show
+from wardens.unfolding import first_values
+
+
+def fact_count(requirement):
+    return len(facts_in(requirement))
+
+
+def split(requirement, history):
+    """The histories of the two parts of a requirement."""
+    count = fact_count(requirement[1])
+    return [tick[:count] for tick in history], [tick[count:] for tick in history]
+
+
+def holds_after(requirement, history):
+    """Point [36]: whether a requirement holds after a run."""
+    word = requirement[0]
+    if word == "fact":
+        return history[-1][0]
+    if word == "not":
+        return not holds_after(requirement[1], history)
+    if word == "before":
+        return len(history) >= 2 and holds_after(requirement[1], history[:-1])
+    if word in ("once", "oncein"):
+        most = requirement[1] if word == "oncein" else len(history)
+        return any(holds_after(requirement[-1], history[:len(history) - n])
+                   for n in range(len(history)) if n <= most)
+    left, right = split(requirement, history)
+    if word == "and":
+        return holds_after(requirement[1], left) and holds_after(requirement[2], right)
+    if word == "or":
+        return holds_after(requirement[1], left) or holds_after(requirement[2], right)
+    ticks = len(history)
+    return any(
+        holds_after(requirement[2], right[:ticks - n])
+        and all(holds_after(requirement[1], left[:ticks - m]) for m in range(n))
+        for n in range(ticks)
+    )
+
+
+def memory_after(requirement, history):
+    """Point [37]: the memory of a requirement after a run."""
+    word = requirement[0]
+    if word == "fact":
+        return (history[-1][0],)
+    if word == "not":
+        return memory_after(requirement[1], history)
+    if word in ("and", "or", "since"):
+        left, right = split(requirement, history)
+        parts = memory_after(requirement[1], left) + memory_after(requirement[2], right)
+        return (holds_after(requirement, history),) + parts if word == "since" else parts
+    if word == "oncein":
+        ticks = len(history)
+        held = [n for n in range(ticks) if holds_after(requirement[2], history[:ticks - n])]
+        return (min(held + [requirement[1] + 1]),) + memory_after(requirement[2], history)
+    return (holds_after(requirement, history),) + memory_after(requirement[1], history)
+
+
+def history_of(machine, requirement, numbers):
+    """The history of a run through the states with these numbers."""
+    truths = [label(machine, fact) for fact in facts_in(requirement)]
+    return [[row[number] for row in truths] for number in numbers]
+
+
+def runs_of(plant, ticks):
+    """All runs of so many ticks, in the order of their values' places."""
+    runs = [[values] for values in first_values(plant)]
+    for _ in range(ticks - 1):
+        runs = [run + [later] for run in runs for later in next_values(plant, run[-1], 1000)]
+    return runs
+
+
+def verdict_by_runs(plant, machine, requirement, row):
+    """Point [40]: the verdict of a row."""
+    truths = []
+    for run in runs_of(plant, len(row)) if row else []:
+        if all(can_show(plant, values, reading) for values, reading in zip(run, row)):
+            numbers = [machine[0].index(values) for values in run]
+            truths.append(holds_after(requirement, history_of(machine, requirement, numbers)))
+    if not truths:
+        return "impossible"
+    if all(truths):
+        return "sure"
+    return "unknown" if any(truths) else "never"
+
+
+def rows_over(readings, longest):
+    """All rows of readings up to a length, shorter ones first."""
+    return [list(row) for length in range(longest + 1) for row in itertools.product(readings, repeat=length)]
