@@ -8,7 +8,7 @@ import itertools
 from wardens.facts import label
 from wardens.memory import facts_in
 from wardens.moves import next_values
-from wardens.readings import can_show
+from wardens.readings import can_show, readings_at
 from wardens.unfolding import first_values
 
 
@@ -94,6 +94,35 @@ def verdict_by_runs(plant, machine, requirement, row):
     return "unknown" if any(truths) else "never"
 
 
+def shares(plant, values, other):
+    """Point [51], the first words: whether some reading is possible for both."""
+    return any(can_show(plant, other, reading) for reading in readings_at(plant, values))
+
+
+def twin_runs(plant, ticks):
+    """All pairs of runs of so many ticks that share a reading at each tick."""
+    runs = runs_of(plant, ticks)
+    return [(one, other) for one in runs for other in runs
+            if all(shares(plant, values, later) for values, later in zip(one, other))]
+
+
+def walk_of(machine, tracked, requirement, run):
+    """The numbers of the tracked states of a run, one for each tick."""
+    history = history_of(machine, requirement, [machine[0].index(values) for values in run])
+    marks = [(values, memory_after(requirement, history[:tick + 1])) for tick, values in enumerate(run)]
+    return [tracked[0].index(mark) for mark in marks]
+
+
 def rows_over(readings, longest):
     """All rows of readings up to a length, shorter ones first."""
     return [list(row) for length in range(longest + 1) for row in itertools.product(readings, repeat=length)]
+
+
+def reached_nodes(monitor, node):
+    """The nodes of a monitor that a node reaches, breadth first; itself is the first of them."""
+    found = [node]
+    for earlier in found:
+        for later in monitor[3][earlier]:
+            if later not in found:
+                found.append(later)
+    return found

@@ -101,6 +101,14 @@ def random_requirement(chance, depth, values):
     return (word, first)
 
 
+def random_monitor(chance, most_nodes, count, verdicts=("sure", "never", "impossible")):
+    """A monitor over so many readings (0,), (1,) and so on; the first verdict is the one of most nodes."""
+    size = chance.randint(1, most_nodes)
+    said = tuple(chance.choice(verdicts) if chance.random() < 0.5 else verdicts[0] for _ in range(size))
+    edges = tuple(tuple(chance.randrange(size) for _ in range(count)) for _ in range(size))
+    return (tuple((number,) for number in range(count)), chance.randrange(size), said, edges)
+
+
 def chance_from(seed):
     """A source of random numbers that are the same in each run of the tests."""
     return random.Random(seed)

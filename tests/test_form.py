@@ -59,6 +59,10 @@ INTERFACE = {
     "tracking": "track evaluate shortest_run",
     "judging": "set_after verdict_of judge",
     "minimal": "reduce",
+    "monitors": "build says same settled",
+    "trials": "cover separators trials",
+    "sheets": "print_monitor parse_monitor",
+    "twins": "share shared_reading twins",
 }
 ARGUMENTS = {
     "count_next": "plant values most", "next_values": "plant values most", "leads_to": "plant values later",
@@ -72,6 +76,10 @@ ARGUMENTS = {
     "track": "machine requirement most", "evaluate": "plant machine requirement run",
     "shortest_run": "tracked wanted", "set_after": "plant tracked members reading",
     "verdict_of": "tracked members", "judge": "plant tracked row", "reduce": "monitor",
+    "build": "plant tracked readings most", "says": "monitor row", "same": "monitor other", "settled": "monitor",
+    "cover": "monitor", "separators": "monitor", "trials": "monitor extra most", "print_monitor": "monitor",
+    "parse_monitor": "text", "share": "plant values other", "shared_reading": "plant values other",
+    "twins": "plant tracked most",
 }
 
 

@@ -2,7 +2,8 @@
 
 import unittest
 
-from samples import chance_from
+from definitions import reached_nodes
+from samples import chance_from, random_monitor
 from wardens.minimal import reduce
 
 TWO = ((0,), (None,))
@@ -17,16 +18,6 @@ def apart(monitor, other, node, other_node):
             return True
         pairs.extend([pair for pair in zip(monitor[3][left], other[3][right]) if pair not in pairs])
     return False
-
-
-def breadth_first(monitor):
-    """The nodes that are reached from the first one, breadth first."""
-    found = [monitor[1]]
-    for node in found:
-        for later in monitor[3][node]:
-            if later not in found:
-                found.append(later)
-    return found
 
 
 class TestReduce(unittest.TestCase):
@@ -101,16 +92,12 @@ class TestReduce(unittest.TestCase):
     def test_against_the_definition(self):
         chance = chance_from(9)
         for _ in range(300):
-            size, count = chance.randint(1, 9), chance.randint(0, 3)
-            readings = tuple((number,) for number in range(count))
-            verdicts = tuple(chance.choice([S, N]) if chance.random() < 0.5 else S for _ in range(size))
-            edges = tuple(tuple(chance.randrange(size) for _ in readings) for _ in range(size))
-            monitor = (readings, chance.randrange(size), verdicts, edges)
+            monitor = random_monitor(chance, 9, chance.randint(0, 3), verdicts=(S, N))
             small = reduce(monitor)
             nodes = range(len(small[2]))
-            self.assertEqual((small[0], small[1], len(small[3])), (readings, 0, len(small[2])))
+            self.assertEqual((small[0], small[1], len(small[3])), (monitor[0], 0, len(small[2])))
             self.assertFalse(apart(monitor, small, monitor[1], 0))
-            self.assertEqual(breadth_first(small), list(nodes))
+            self.assertEqual(reached_nodes(small, 0), list(nodes))
             self.assertTrue(all(apart(small, small, i, j) for j in nodes for i in range(j)))
             self.assertEqual(reduce(small), small)
 

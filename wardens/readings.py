@@ -8,17 +8,27 @@ from wardens.unfolding import first_up_to, is_run, next_up_to
 
 def can_show(plant, values, reading):
     """Returns True if a reading is possible for the values, otherwise False."""
+    return fits(plant, shown_by(plant, values), reading)
+
+
+def shown_by(plant, values):
+    """Returns the tuple of the values that the sensors' terms have for the values."""
+    return tuple([value_of(term, values) for _, term, _, _ in plant[2]])
+
+
+def fits(plant, shown, reading):
+    """Returns whether a reading is possible where the sensors' terms have the values in a tuple."""
     if len(reading) != len(plant[2]):
         return False
-    return all([sensor_can_show(sensor, values, item) for sensor, item in zip(plant[2], reading)])
+    return all([item_fits(sensor, middle, item) for sensor, middle, item in zip(plant[2], shown, reading)])
 
 
-def sensor_can_show(sensor, values, item):
-    """Returns whether a sensor can show an integer, or None."""
-    _, term, error, lossy = sensor
+def item_fits(sensor, middle, item):
+    """Returns whether a sensor can show an integer, or None, where its term has a value."""
+    _, _, error, lossy = sensor
     if item is None:
         return lossy
-    return abs(item - value_of(term, values)) <= error
+    return abs(item - middle) <= error
 
 
 def count_readings(plant, values, most):
@@ -38,8 +48,7 @@ def reading_box(plant, values):
     Where a sensor is lossy, the integer behind all that it can show stands for None.
     """
     box = []
-    for _, term, error, lossy in plant[2]:
-        middle = value_of(term, values)
+    for (_, _, error, lossy), middle in zip(plant[2], shown_by(plant, values)):
         box.append((middle - error, middle + error + (1 if lossy else 0)))
     return box
 
