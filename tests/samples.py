@@ -3,6 +3,14 @@
 import random
 
 TRUE, FALSE = ("true",), ("false",)
+# A source with a tank, whose gauge is inexact.
+TANK = """
+part tank { var level : 0..3 from 0; move fill when level < 3 do level := level + 1; move drain do level := 0; }
+sensor gauge = level +- 1;
+require full = level = 3;
+require was = once level = 3;
+require calm = always level < 2;
+"""
 
 
 def num(n):
@@ -76,6 +84,16 @@ def random_walker(chance, most_values, sensors=()):
     steps = [tuple(chance.sample(range(size), chance.randint(0, min(3, size)))) for _ in range(size)]
     low = chance.randrange(size)
     return walker(*steps, first=(low, chance.randint(low, size - 1)), sensors=sensors)
+
+
+def random_lamp_walker(chance, most_values):
+    """A plant with one sensor that does not tell all values from each other."""
+    size = chance.randint(2, most_values)
+    steps = [tuple(chance.sample(range(size), chance.choice([1, 1, 2]))) for _ in range(size)]
+    low = chance.randrange(size)
+    term = chance.choice([("min", var(0), num(1)), ("max", var(0), num(size - 2)), num(0)])
+    sensor = ("lamp", term, chance.choice([0, 0, 1]), chance.random() < 0.1)
+    return walker(*steps, first=(low, min(size - 1, low + chance.choice([0, 0, 1]))), sensors=[sensor])
 
 
 def random_fact(chance, depth, values):

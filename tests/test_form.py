@@ -63,6 +63,10 @@ INTERFACE = {
     "trials": "cover separators trials",
     "sheets": "print_monitor parse_monitor",
     "twins": "share shared_reading twins",
+    "delays": "delay doubt hidden confused tolerance",
+    "recent": "recent_judge recent_delay least_memory",
+    "doors": "unfold_text judge_text build_text delay_text hidden_text example_text differ_text",
+    "watch": "Warden Fleet",
 }
 ARGUMENTS = {
     "count_next": "plant values most", "next_values": "plant values most", "leads_to": "plant values later",
@@ -80,6 +84,20 @@ ARGUMENTS = {
     "cover": "monitor", "separators": "monitor", "trials": "monitor extra most", "print_monitor": "monitor",
     "parse_monitor": "text", "share": "plant values other", "shared_reading": "plant values other",
     "twins": "plant tracked most",
+    "delay": "plant tracked most", "doubt": "plant tracked most", "hidden": "plant tracked ticks most",
+    "confused": "plant tracked most", "tolerance": "plant tracked sensor ticks most",
+    "recent_judge": "plant tracked row memory", "recent_delay": "plant tracked memory most",
+    "least_memory": "plant tracked ticks most", "unfold_text": "source", "judge_text": "source requirement row",
+    "build_text": "source requirement", "delay_text": "source requirement",
+    "hidden_text": "source requirement ticks", "example_text": "source requirement",
+    "differ_text": "source requirement other",
+}
+KEYWORDS = {"parse_expression": ["whole"], "print_expression": ["whole"], "example_text": ["met"]}
+CLASSES = {
+    "Warden": {"__init__": "self source", "read": "self reading", "verdicts": "self", "readings": "self",
+               "explain": "self requirement met", "back": "self"},
+    "Fleet": {"__init__": "self", "put": "self name source", "drop": "self name", "read": "self name reading",
+              "verdicts": "self", "alarms": "self", "names": "self", "back": "self"},
 }
 
 
@@ -280,6 +298,16 @@ class TestForm(unittest.TestCase):
             for node in tree.body:
                 if isinstance(node, ast.FunctionDef) and node.name in listed and node.name in ARGUMENTS:
                     self.assertEqual([argument.arg for argument in node.args.args], ARGUMENTS[node.name].split())
+                if isinstance(node, ast.FunctionDef) and node.name in listed:
+                    keywords = [argument.arg for argument in node.args.kwonlyargs]
+                    self.assertEqual(keywords, KEYWORDS.get(node.name, []))
+
+    def test_methods_of_the_interface(self):
+        found = {node.name: {method.name: " ".join(argument.arg for argument in method.args.args)
+                             for method in functions_in(node)}
+                 for _, tree in each_tree() for node in tree.body if isinstance(node, ast.ClassDef)}
+        for name, methods in CLASSES.items():
+            self.assertLessEqual(set(methods.items()), set(found[name].items()))
 
 
 if __name__ == "__main__":

@@ -5,12 +5,16 @@ from wardens.readings import can_show
 
 def set_after(plant, tracked, members, reading):
     """Returns the set after one more reading; members is the set before it, or None before the first one."""
-    marks, starts, steps, _ = tracked
+    marks = tracked[0]
+    return [number for number in members_after(tracked, members) if can_show(plant, marks[number][0], reading)]
+
+
+def members_after(tracked, members):
+    """Returns the set after one more tick of which no reading is known, likewise."""
+    _, starts, steps, _ = tracked
     if members is None:
-        reached = {number: True for number in starts}
-    else:
-        reached = {later: True for member in members for later in steps[member]}
-    return [number for number in sorted(reached) if can_show(plant, marks[number][0], reading)]
+        return sorted(starts)
+    return sorted(set([later for member in members for later in steps[member]]))
 
 
 def verdict_of(tracked, members):

@@ -2,7 +2,7 @@
 
 from wardens.errors import NotARun, TooMany
 from wardens.facts import label
-from wardens.graphs import distances_to
+from wardens.graphs import shortest_way
 from wardens.memory import facts_in, first_memory, meets, next_memory
 from wardens.unfolding import is_run
 
@@ -58,21 +58,10 @@ def evaluate(plant, machine, requirement, run):
 def shortest_run(tracked, wanted):
     """Returns a shortest run after which the requirement holds, or does not hold, as wanted; None without one."""
     marks, starts, steps, met = tracked
-    distances = distances_to(steps, [truth == wanted for truth in met])
-    number = nearest(starts, distances)
-    if number is None:
+    way = shortest_way(starts, steps, [truth == wanted for truth in met])
+    if way is None:
         return None
-    run = [marks[number][0]]
-    while distances[number] > 0:
-        number = nearest(steps[number], distances)
-        run.append(marks[number][0])
-    return run
-
-
-def nearest(numbers, distances):
-    """Returns the first of the numbers that have the least distance, or None if none of them has one."""
-    near = [number for number in numbers if distances[number] is not None]
-    return min(near, key=lambda number: distances[number], default=None)
+    return [marks[number][0] for number in way]
 
 
 def holds_in_states(machine, requirement):
